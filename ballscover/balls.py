@@ -26,6 +26,11 @@ def words_by_hits(bits, there, r):
     return [counts.count(often) for often in range(len(there) + 1)]
 
 
+def words_hit(bits, there, r, often):
+    """The words, of all words, that are hit just so often, rising."""
+    return [x for x, count in enumerate(hit_counts(bits, there, r)) if count == often]
+
+
 def balls_cover(bits, there, r):
     """Whether each word is hit."""
     return min(hit_counts(bits, there, r)) >= 1
@@ -34,3 +39,32 @@ def balls_cover(bits, there, r):
 def balls_apart(bits, there, r):
     """Whether no word is hit twice."""
     return max(hit_counts(bits, there, r)) <= 1
+
+
+def balls_fill(bits, there, r):
+    """Whether the balls cover and are apart."""
+    return balls_cover(bits, there, r) and balls_apart(bits, there, r)
+
+
+def needed_words(bits, there, r):
+    """The words there are without which, each alone, balls that cover would not, rising."""
+    # Without a word just those that its ball alone hits are uncovered.
+    once = words_hit(bits, there, r, 1)
+    return [word for word in there if any([distance(word, x) <= r for x in once])]
+
+
+def covering_radius(bits, there):
+    """The least r so that balls cover; there must be words."""
+    r = 0
+    while not balls_cover(bits, there, r):
+        r += 1
+    return r
+
+
+def apart_reach(bits, there):
+    """The greatest r, up to the bits, so that balls are apart."""
+    # Balls of 0 are apart, and where greater ones are, lesser ones are too: the first that are not end it.
+    r = 0
+    while r < bits and balls_apart(bits, there, r + 1):
+        r += 1
+    return r

@@ -1,8 +1,11 @@
 """The calls on one object, told as whole numbers, and what is answered of them."""
 
-from ballscover.balls import ball_size, balls_apart, balls_cover, hit_count, words_by_hits
-from ballscover.bits import word_count
+from ballscover.balls import apart_reach, ball_size, balls_apart, balls_cover, balls_fill, covering_radius
+from ballscover.balls import hit_count, hit_counts, needed_words, words_by_hits, words_hit
+from ballscover.bits import distance, word_count
+from ballscover.choices import greedy_cover, nearest_words
 from ballscover.growth import closed, filled
+from ballscover.signs import places_in_the_way, round_sum, round_zeros
 
 MOST_BITS = 6
 
@@ -14,6 +17,11 @@ class State:
         # No begin that is answered 0 leaves 0 bits, so they stand for not begun.
         self.bits = 0
         self.there = []
+
+
+def counted(found):
+    """How many there are, then these."""
+    return [len(found)] + found
 
 
 def begin(state, handed):
@@ -59,7 +67,7 @@ def fill(state, handed):
 
 def words(state, handed):
     """How many words there are, then they, rising."""
-    return [len(state.there)] + state.there
+    return counted(state.there)
 
 
 def ball(state, handed):
@@ -74,8 +82,7 @@ def hits(state, handed):
 
 def times(state, handed):
     """One more than there are words, then how many words are hit 0 times, once and so on."""
-    counts = words_by_hits(state.bits, state.there, handed[0])
-    return [len(counts)] + counts
+    return counted(words_by_hits(state.bits, state.there, handed[0]))
 
 
 def covers(state, handed):
@@ -88,15 +95,87 @@ def apart(state, handed):
     return [1 if balls_apart(state.bits, state.there, handed[0]) else 0]
 
 
+def fills(state, handed):
+    """1 if the balls fill, else 0."""
+    return [1 if balls_fill(state.bits, state.there, handed[0]) else 0]
+
+
+def evenly(state, handed):
+    """How often each word is hit, if that is equally often."""
+    counts = hit_counts(state.bits, state.there, handed[0])
+    if min(counts) != max(counts):
+        return [-33]
+    return [counts[0]]
+
+
+def round_of(state, handed):
+    """0, then the round sum."""
+    return [0, round_sum(state.bits, handed[0], handed[1])]
+
+
+def zeros(state, handed):
+    """At how many numbers from 1 to the bits the round sum is 0, then these, rising."""
+    return counted(round_zeros(state.bits, handed[0]))
+
+
+def in_the_way(state, handed):
+    """How many sets of places are in the way, then these, rising."""
+    return counted(places_in_the_way(state.bits, state.there, handed[0]))
+
+
+def radius(state, handed):
+    """The least r so that the balls cover, if there are words."""
+    if state.there == []:
+        return [-6]
+    return [covering_radius(state.bits, state.there)]
+
+
+def reach(state, handed):
+    """The greatest r, up to the bits, so that the balls are apart."""
+    return [apart_reach(state.bits, state.there)]
+
+
+def uncovered(state, handed):
+    """How many words are not hit, then these, rising."""
+    return counted(words_hit(state.bits, state.there, handed[0], 0))
+
+
+def mend(state, handed):
+    """The first of the nearest words, its distance, and how many are as near, if there are words."""
+    if state.there == []:
+        return [-6]
+    near = nearest_words(state.there, handed[0])
+    return [near[0], distance(near[0], handed[0]), len(near)]
+
+
+def cover(state, handed):
+    """How many words the cover taken greedily has, then these, as they are taken."""
+    return counted(greedy_cover(state.bits, handed[0]))
+
+
+def needed(state, handed):
+    """How many words there are without which the balls would not cover, then these, rising, if they do."""
+    if not balls_cover(state.bits, state.there, handed[0]):
+        return [-33]
+    return counted(needed_words(state.bits, state.there, handed[0]))
+
+
+def told(state, handed):
+    """How many bits, then how many words there are."""
+    return [state.bits, len(state.there)]
+
+
 # What is handed to each call, by its number, a letter for each number handed over:
 # b how many bits, x a word, r how far balls reach, i how many places.
-# Calls that CALLED does not have yet stand here, too: before a begin they are answered as all others.
 HANDED = (
     "b", "x", "x", "x", "", "r", "", "r", "rx", "r", "r", "r",
     "r", "r", "ri", "r", "r", "", "", "r", "x", "r", "r", "",
 )
 
-CALLED = (begin, put, take, move, close, fill, words, ball, hits, times, covers, apart)
+CALLED = (
+    begin, put, take, move, close, fill, words, ball, hits, times, covers, apart,
+    fills, evenly, round_of, zeros, in_the_way, radius, reach, uncovered, mend, cover, needed, told,
+)
 
 
 def is_wrong(bits, letter, value):

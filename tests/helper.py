@@ -1,4 +1,6 @@
-"""Tells calls by name, and what is answered of them as a list for each call."""
+"""Tells calls by name, and what is answered of them as a list for each call; and sets of words to try."""
+
+import itertools
 
 from ballscover.words import answers
 
@@ -23,6 +25,8 @@ def told(text):
         if len(handed) != count:
             raise ValueError(f"{name} is handed {count} numbers, not {len(handed)}")
         numbers += [number] + [int(value) for value in handed]
+    if len(text.split(";")) > 60 or len(numbers) > 180:
+        raise ValueError(f"more calls or numbers than may be handed in: {text!r}")
     return numbers
 
 
@@ -57,3 +61,57 @@ def last(text):
 def with_words(bits, there):
     """Calls that begin with so many bits and put in these words."""
     return "; ".join([f"begin {bits}"] + [f"put {word}" for word in there])
+
+
+def setting(bits, there):
+    """Calls that begin with so many bits and leave these words there; at most 34 calls."""
+    if 2 * len(there) <= 2 ** bits:
+        return with_words(bits, there)
+    left_out = [word for word in range(2 ** bits) if word not in there]
+    return "; ".join([f"begin {bits}", "fill 0"] + [f"take {word}" for word in left_out])
+
+
+def looked(bits, there, looks):
+    """What is answered of calls that look, in as many lines as they need, with these words there."""
+    found = []
+    for first in range(0, len(looks), 25):
+        part = looks[first:first + 25]
+        found += run("; ".join([setting(bits, there)] + part))[-len(part):]
+    return found
+
+
+def subsets(bits):
+    for chosen in itertools.product((False, True), repeat=2 ** bits):
+        yield [word for word in range(2 ** bits) if chosen[word]]
+
+
+def chosen_sets(bits):
+    """Sets of words with something to them, and sets that are spread by a fixed rule."""
+    every = range(2 ** bits)
+    top = 2 ** bits - 1
+    yield []
+    yield [5]
+    yield list(every)
+    yield [0, top]
+    yield [0, top - 1]
+    yield sorted([10, top - 10])
+    yield [0, 1, top - 1, top]
+    yield list(range(2 ** (bits - 1)))
+    yield [word for word in every if word.bit_count() % 2 == 0]
+    yield [word for word in every if word.bit_count() % 2 == 1 and word != 1]
+    yield [word for word in every if word.bit_count() <= 2]
+    yield [word for word in every if word != 6]
+    yield [0, 7, 9, 14]
+    yield [word for word in (0, 7, 25, 30, 42, 45, 51, 52) if word <= top]
+    for step in range(1, 24):
+        yield sorted({(step * step * k + 7 * k + step) % 2 ** bits for k in range(step % 11 + 1)})
+
+
+def some_sets():
+    """All sets of up to 3 bits, and chosen sets of more."""
+    for bits in (1, 2, 3):
+        for there in subsets(bits):
+            yield bits, there
+    for bits in (4, 5, 6):
+        for there in chosen_sets(bits):
+            yield bits, there

@@ -54,6 +54,15 @@ def bound_names(tree):
             yield node.id
 
 
+def top_names(part):
+    """The names that a part of a file's top binds."""
+    if isinstance(part, ast.ImportFrom):
+        return [alias.name for alias in part.names]
+    if isinstance(part, ast.Assign):
+        return [target.id for target in part.targets]
+    return [part.name] if isinstance(part, (ast.FunctionDef, ast.ClassDef)) else []
+
+
 class Language(unittest.TestCase):
     def test_files(self):
         self.assertIn("__init__.py", [path.name for path in files()])
@@ -98,6 +107,60 @@ class Language(unittest.TestCase):
             defined = [part.name for part in tree.body if isinstance(part, (ast.FunctionDef, ast.ClassDef))]
             for alias in node.names:
                 self.assertIn(alias.name, defined, where)
+
+    def test_no_two_files_draw_from_one_another(self):
+        drawn = {path.stem: set() for path in files()}
+        for where, node in nodes(ast.ImportFrom):
+            drawn[where.split(".")[0]].add(node.module.split(".")[1])
+        while drawn:
+            ready = [name for name in drawn if not drawn[name] & set(drawn)]
+            self.assertTrue(ready, drawn)
+            drawn = {name: drawn[name] for name in drawn if name not in ready}
+
+    def test_the_top_of_a_file(self):
+        for name, tree in trees():
+            self.assertIsNotNone(ast.get_docstring(tree), name)
+            for part in tree.body[1:]:
+                self.assertIsInstance(part, (ast.ImportFrom, ast.FunctionDef, ast.ClassDef, ast.Assign), name)
+            bound = [one for part in tree.body for one in top_names(part)]
+            self.assertEqual(len(bound), len(set(bound)), name)
+            for part in tree.body:
+                if isinstance(part, ast.Assign):
+                    self.assertFalse([node for node in ast.walk(part.value)
+                                      if isinstance(node, (ast.List, ast.Dict, ast.Set, ast.Call))], name)
+
+    def test_no_local_is_called_like_an_import_or_a_class(self):
+        for name, tree in trees():
+            taken = [one for part in tree.body if isinstance(part, (ast.ImportFrom, ast.ClassDef))
+                     for one in top_names(part)]
+            for node in ast.walk(tree):
+                if isinstance(node, ast.arg):
+                    self.assertNotIn(node.arg, taken, name)
+                elif isinstance(node, ast.Name) and isinstance(node.ctx, ast.Store):
+                    self.assertNotIn(node.id, taken, name)
+
+    def test_is_stands_beside_none_true_and_false_alone(self):
+        for where, node in nodes(ast.Compare):
+            for sort, other in zip(node.ops, node.comparators):
+                if isinstance(sort, (ast.Is, ast.IsNot)):
+                    self.assertIsInstance(other, ast.Constant, where)
+                    self.assertIn(repr(other.value), ("None", "True", "False"), where)
+
+    def test_no_annotation_no_keyword_and_no_set(self):
+        # Rules allow some of these; the package does without.
+        for where, node in nodes(ast.FunctionDef):
+            self.assertIsNone(node.returns, where)
+            self.assertFalse([one for one in node.args.args if one.annotation or node.args.defaults], where)
+        self.assertEqual(nodes((ast.keyword, ast.Set, ast.Lambda, ast.Try)), [])
+        self.assertEqual([where for where, node in nodes(ast.Name) if node.id in ("set", "frozenset")], [])
+
+    def test_what_is_walked_is_walked_on_the_spot(self):
+        for name, tree in trees():
+            walked = [node.iter for node in ast.walk(tree) if isinstance(node, (ast.For, ast.comprehension))]
+            for node in ast.walk(tree):
+                if isinstance(node, ast.Call) and isinstance(node.func, ast.Name):
+                    if node.func.id in ("range", "zip", "enumerate", "reversed"):
+                        self.assertIn(node, walked, f"{name}:{node.lineno}")
 
     def test_names(self):
         for name, tree in trees():

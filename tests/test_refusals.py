@@ -2,10 +2,13 @@
 
 import unittest
 
-from tests.helper import BIGGEST, CALLS, last, run
+from tests.helper import BIGGEST, CALLS, run
 
-WORD_CALLS = ("put", "take", "move")
-BALL_CALLS = ("fill", "ball", "times", "covers", "apart")
+WORD_CALLS = ("put", "take", "move", "mend")
+BALL_CALLS = ("fill", "ball", "times", "covers", "apart", "fills", "evenly", "zeros", "in_the_way", "uncovered",
+              "cover", "needed")
+LOOKS = ("words; ball 1; hits 1 2; times 1; covers 1; apart 1; fills 1; evenly 1; round 1 3; zeros 1; in_the_way 1; "
+         "radius; reach; uncovered 1; mend 2; cover 1; needed 2; told")
 
 
 class BeforeABegin(unittest.TestCase):
@@ -32,7 +35,8 @@ class BeforeABegin(unittest.TestCase):
 class NumbersThatThereAreNot(unittest.TestCase):
     def assert_refused(self, bits, call):
         there = f"begin {bits}; put 1; put 0"
-        self.assertEqual(run(f"{there}; {call}; words; ball {bits}")[3:], [[-22], [2, 0, 1], [2 ** bits]], call)
+        self.assertEqual(run(f"{there}; {call}; words; ball {bits}; told")[3:],
+                         [[-22], [2, 0, 1], [2 ** bits], [bits, 2]], call)
 
     def test_a_word_with_a_bit_that_there_is_not(self):
         for bits in range(1, 7):
@@ -52,6 +56,20 @@ class NumbersThatThereAreNot(unittest.TestCase):
                           f"{bits + 1} {2 ** bits}", f"{BIGGEST} {BIGGEST}"):
                 self.assert_refused(bits, f"hits {wrong}")
 
+    def test_round_with_one_of_its_two_wrong_or_both(self):
+        for bits in range(1, 7):
+            for wrong in (f"{bits + 1} 0", f"0 {bits + 1}", f"{bits} {BIGGEST}", f"{BIGGEST} {bits}",
+                          f"{bits + 1} {bits + 1}", f"{BIGGEST} {BIGGEST}"):
+                self.assert_refused(bits, f"round {wrong}")
+
+    def test_they_are_told_ahead_of_all_other_refusals(self):
+        for bits in range(1, 7):
+            for r in (bits + 1, BIGGEST):
+                self.assertEqual(run(f"begin {bits}; needed {r}; put 0; evenly {r}; needed {r}; words"),
+                                 [[0], [-22], [1], [-22], [-22], [1, 0]])
+            for word in (2 ** bits, BIGGEST):
+                self.assertEqual(run(f"begin {bits}; mend {word}; take {word}; words"), [[0], [-22], [-22], [0]])
+
     def test_the_last_that_there_are_are_not_refused(self):
         for bits in range(1, 7):
             word = 2 ** bits - 1
@@ -59,6 +77,10 @@ class NumbersThatThereAreNot(unittest.TestCase):
                              [[0], [1], [0], [0], [1], [0]])
             self.assertEqual(run(f"begin {bits}; ball {bits}; times {bits}; covers {bits}; apart {bits}; fill {bits}"),
                              [[0], [word + 1], [1, word + 1], [0], [1], [1]])
+            self.assertEqual(run(f"begin {bits}; put {word}; mend {word}; fills {bits}; evenly {bits}; round {bits} {bits}; "
+                                 f"zeros {bits}; in_the_way {bits}; uncovered {bits}; cover {bits}; needed {bits}")[2:],
+                             [[word, 0, 1], [1], [1], [0, 0], [bits] + list(range(1, bits + 1)), [0], [0], [1, 0],
+                              [1, word]])
 
 
 class ChangesNothing(unittest.TestCase):
@@ -67,19 +89,26 @@ class ChangesNothing(unittest.TestCase):
 
     def test_each_refusal_leaves_all_as_it_was(self):
         there = "begin 3; put 6; put 1"
-        looks = "words; ball 1; hits 1 2; times 1; covers 1; apart 1"
-        as_it_was = run(f"{there}; {looks}")[3:]
+        as_it_was = run(f"{there}; {LOOKS}")[3:]
         for call, refusal in (("begin 0", -22), ("begin 7", -22), (f"begin {BIGGEST}", -22), ("put 8", -22),
                               ("put 6", -17), ("put 1", -17), ("take 8", -22), ("take 0", -2), ("take 7", -2),
                               ("move 8", -22), ("fill 4", -22), ("ball 4", -22), ("hits 4 0", -22),
-                              ("hits 0 8", -22), ("times 4", -22), ("covers 4", -22), ("apart 4", -22)):
-            self.assertEqual(run(f"{there}; {call}; {looks}")[3:], [[refusal]] + as_it_was, call)
+                              ("hits 0 8", -22), ("times 4", -22), ("covers 4", -22), ("apart 4", -22),
+                              ("fills 4", -22), ("evenly 4", -22), ("evenly 0", -33), ("round 4 0", -22),
+                              ("round 0 4", -22), ("zeros 4", -22), ("in_the_way 4", -22), ("uncovered 4", -22),
+                              ("mend 8", -22), ("cover 4", -22), ("needed 4", -22), ("needed 0", -33)):
+            self.assertEqual(run(f"{there}; {call}; {LOOKS}")[3:], [[refusal]] + as_it_was, call)
+
+    def test_nor_does_one_with_no_words_there(self):
+        as_it_was = run(f"begin 3; {LOOKS}")[1:]
+        for call, refusal in (("radius", -6), ("mend 0", -6), ("mend 7", -6), ("mend 8", -22), ("needed 3", -33),
+                              ("take 0", -2)):
+            self.assertEqual(run(f"begin 3; {call}; {LOOKS}")[1:], [[refusal]] + as_it_was, call)
 
     def test_looking_leaves_all_as_it_was(self):
-        looks = "words; ball 1; hits 1 2; times 1; covers 1; apart 1"
-        found = run(f"begin 3; put 6; put 1; {looks}; {looks}")[3:]
-        self.assertEqual(found[:6], found[6:])
-        self.assertEqual(last(f"begin 3; put 6; put 1; {looks}; words"), [2, 1, 6])
+        found = run(f"begin 3; put 6; put 2; {LOOKS}; {LOOKS}; words")[3:]
+        self.assertEqual(found[:18], found[18:36])
+        self.assertEqual(found[36], [2, 2, 6])
 
     def test_a_word_that_was_moved_is_no_longer_there(self):
         self.assertEqual(run("begin 3; put 6; move 1; take 6; put 7; put 6")[3:], [[-2], [-17], [2]])
