@@ -138,14 +138,17 @@ class NothingIsChanged(unittest.TestCase):
             self.assertEqual(found[-2:], [[len(there)] + there, [bits, len(there)]])
 
     def test_by_what_is_refused(self):
-        for bits, there in some_sets():
-            r = len(there) % (bits + 1)
+        for bits, there, r in sets_and_reaches():
             as_it_was = looked(bits, there, looks_at_all(bits, r))
             calls = refused_calls(bits, there, r)
-            for first in range(0, len(calls), 5):
-                part = list(calls)[first:first + 5]
-                found = looked(bits, there, part + looks_at_all(bits, r))
-                self.assertEqual(found, [[calls[call]] for call in part] + as_it_was, (bits, there, part))
+            looks = looks_at_all(bits, r)
+            # As many refused calls as a line of 60 has room for, then a look at all.
+            room = 60 - len(setting(bits, there).split(";")) - len(looks)
+            for first in range(0, len(calls), room):
+                part = list(calls)[first:first + room]
+                found = run("; ".join([setting(bits, there)] + part + looks))
+                self.assertEqual(found[-len(part + looks):], [[calls[call]] for call in part] + as_it_was,
+                                 (bits, there, part))
 
 
 if __name__ == "__main__":
